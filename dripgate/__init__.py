@@ -1,0 +1,1 @@
+"""Dripgate: calls let through at the cost of drops."""
