@@ -13,22 +13,20 @@ def full(plan):
 
 def after_tick(plan, levels):
     """The levels after one tick."""
-    holds = plan[0]
-    shares = plan[1]
-    bowl_hold = plan[2]
-    bowl_share = plan[3]
-    offered = [cup + share for cup, share in zip(levels[0], shares)]
-    cups = tuple([min(hold, drops) for hold, drops in zip(holds, offered)])
-    run_over = sum(offered) - sum(cups)
-    return (cups, min(bowl_hold, levels[1] + run_over + bowl_share))
+    return after_ticks(plan, levels, 1)
 
 
 def after_ticks(plan, levels, many):
     """The levels after so many ticks, nought or more."""
-    reached = levels
-    for tick in range(many):
-        reached = after_tick(plan, reached)
-    return reached
+    holds = plan[0]
+    shares = plan[1]
+    bowl_hold = plan[2]
+    bowl_share = plan[3]
+    # Ticks only add drops, so cutting off once, at the end, leaves what cutting off with every tick would.
+    offered = [cup + many * share for cup, share in zip(levels[0], shares)]
+    cups = tuple([min(hold, drops) for hold, drops in zip(holds, offered)])
+    run_over = sum(offered) - sum(cups)
+    return (cups, min(bowl_hold, levels[1] + run_over + many * bowl_share))
 
 
 def after_call(plan, levels, who, cost):

@@ -6,68 +6,9 @@ import unittest
 
 from dripgate.errors import GateError, NoCaller
 from dripgate.levels import after_call, after_tick, after_ticks, full
-
-HUNDRED_FIGURES = 10 ** 100 - 1
-
-
-def small_plans():
-    """Every plan of two callers with tiny numbers."""
-    few = range(3)
-    for one, other, share, other_share, bowl, bowl_share in itertools.product(few, repeat=6):
-        yield ((one, other), (share, other_share), bowl, bowl_share)
-
-
-def small_levels(plan):
-    """Every levels of such a plan."""
-    holds = plan[0]
-    for one, other, bowl in itertools.product(range(holds[0] + 1), range(holds[1] + 1), range(plan[2] + 1)):
-        yield ((one, other), bowl)
-
-
-def tick_drop_by_drop(plan, levels):
-    """One tick, told in another way than the program's: each drop falls by itself."""
-    holds, shares, bowl_hold, bowl_share = plan
-    cups, bowl = list(levels[0]), levels[1]
-    for who, share in enumerate(shares):
-        for _ in range(share):
-            if cups[who] < holds[who]:
-                cups[who] += 1
-            elif bowl < bowl_hold:
-                bowl += 1
-    for _ in range(bowl_share):
-        if bowl < bowl_hold:
-            bowl += 1
-    return (tuple(cups), bowl)
-
-
-def call_drop_by_drop(levels, who, cost):
-    """One call, told in another way than the program's: each drop is paid by itself."""
-    cups, bowl = list(levels[0]), levels[1]
-    for _ in range(cost):
-        if cups[who] > 0:
-            cups[who] -= 1
-        elif bowl > 0:
-            bowl -= 1
-        else:
-            return (False, levels)
-    return (True, (tuple(cups), bowl))
-
-
-class LevelsCase(unittest.TestCase):
-    def assert_levels(self, levels, expected):
-        """Equal, and of the very kinds that the interface tells."""
-        self.assertIs(type(levels), tuple)
-        self.assertEqual(len(levels), 2)
-        self.assertIs(type(levels[0]), tuple)
-        for drops in levels[0] + (levels[1],):
-            self.assertIs(type(drops), int)
-        self.assertEqual(levels, expected)
-
-    def assert_call(self, answer, passed, expected):
-        self.assertIs(type(answer), tuple)
-        self.assertEqual(len(answer), 2)
-        self.assertIs(answer[0], passed)
-        self.assert_levels(answer[1], expected)
+from models import (
+    HUNDRED_FIGURES, LevelsCase, call_drop_by_drop, small_levels, small_plans, tick_drop_by_drop, wrong_calls,
+)
 
 
 class Full(LevelsCase):
@@ -289,25 +230,14 @@ class Call(LevelsCase):
 
 
 class WrongCaller(LevelsCase):
-    plans = (((5,), (2,), 4, 1), ((5, 3, 8), (2, 1, 1), 4, 1), ((0,) * 20, (0,) * 20, 0, 0))
-
-    def wrong_calls(self):
-        for plan in self.plans:
-            count = len(plan[0])
-            below = (-1, -count, -count - 1, -HUNDRED_FIGURES, -10 ** 5000)
-            beyond = (count, count + 1, 1000, HUNDRED_FIGURES, 10 ** 5000)
-            # Nought, what a caller could pay, and what none could.
-            for who, cost in itertools.product(below + beyond, (0, 1, 1000, HUNDRED_FIGURES)):
-                yield plan, who, cost
-
     def test_refused_whatever_it_costs(self):
-        for plan, who, cost in self.wrong_calls():
+        for plan, who, cost in wrong_calls():
             for levels in (full(plan), ((0,) * len(plan[0]), 0)):
                 with self.assertRaises(NoCaller):
                     after_call(plan, levels, who, cost)
 
     def test_taken_as_the_wider_errors(self):
-        for plan, who, cost in self.wrong_calls():
+        for plan, who, cost in wrong_calls():
             for wider in (GateError, ValueError):
                 with self.assertRaises(wider):
                     after_call(plan, full(plan), who, cost)
